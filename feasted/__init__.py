@@ -1,0 +1,1 @@
+"""Feasted: who feasted how often while the roads were opened."""

@@ -1,0 +1,56 @@
+"""What more than one module asks of its arguments."""
+
+from feasted.errors import BadEvening, BadFeasts, BadMany, BadRest, BadSome, BadValley
+from feasted.kinds import first_stranger, is_book, is_from_one, is_list, is_number, keys_lacking
+from feasted.valleys import Valley
+
+
+def need_valley(valley):
+    if not isinstance(valley, Valley):
+        raise BadValley(valley)
+
+
+def evening_places(valley, thing):
+    """The places of an evening's roads, as they are opened, None for what is no evening."""
+    if not is_list(thing) or len(thing) != len(valley.roads()):
+        return None
+    if not all([valley.is_road(road) for road in thing]):
+        return None
+    places = [valley.place(road[0], road[1]) for road in thing]
+    if len(set(places)) != len(places):
+        return None
+    return places
+
+
+def need_evening(valley, evening):
+    """The places of its roads, as they are opened."""
+    places = evening_places(valley, evening)
+    if places is None:
+        raise BadEvening(evening)
+    return places
+
+
+def need_many(valley, many):
+    if not is_number(many) or many > len(valley.roads()):
+        raise BadMany(many)
+
+
+def need_feasts(valley, feasts):
+    if not is_book(feasts, valley.houses(), is_number):
+        raise BadFeasts(feasts)
+
+
+def need_some(valley, some):
+    if not is_list(some):
+        raise BadSome(0)
+    index = first_stranger(some, valley.houses())
+    if index is not None:
+        raise BadSome(index)
+
+
+def need_rest(valley, rest):
+    """The road that a rest lacks."""
+    lacking = keys_lacking(rest, valley.roads(), is_from_one)
+    if lacking is None or len(lacking) != 1:
+        raise BadRest(rest)
+    return lacking[0]

@@ -1,0 +1,59 @@
+"""The interface: names, files and parameters, each defined where it is listed."""
+
+import ast
+import importlib
+import inspect
+import pathlib
+import unittest
+
+from feasted.valleys import Valley
+
+PACKAGE = pathlib.Path(__file__).resolve().parent.parent / "feasted"
+LISTED = {
+    "evenings": """is_evening(valley, thing) part_of(valley, evening, one, other) parts(valley, evening)
+        parts_behind(valley, evening, many) are_alike(valley, evening, other) first_alike(valley, evening)
+        feasts_of(valley, evening) at_table(valley, evening, house)""",
+    "halves": """weight(valley, feasts, some) halving(valley, feasts, part) evening_of_feasts(valley, feasts)
+        feasts_break(valley, feasts) parts_of_feasts(valley, feasts) last_road(valley, feasts)""",
+    "roadnumbers": """road_numbers(valley, evening) side_digits(valley, feasts, one, other)
+        evening_of_numbers(valley, numbers) numbers_break(valley, numbers) numbers_of_feasts(valley, feasts)
+        roads_break(valley, feasts) number_lacking(valley, rest)""",
+    "histories": "history(valley, evening, one, other)",
+    "doubts": """all_fitting(valley, told) suspects(valley, feasts) wrong_and_right(valley, feasts)
+        exchanged(valley, feasts) all_within(valley, bounds)""",
+}
+METHODS = {"__init__": ["houses", "roads", "heads"], "houses": [], "roads": [], "heads": [], "beside": ["house"],
+           "way": ["one", "other"], "side": ["one", "other"], "__eq__": None}
+
+
+def listed():
+    for file, words in LISTED.items():
+        for call in words.replace("\n", " ").split(")"):
+            if call.strip():
+                name, parameters = call.strip().split("(")
+                yield file, name, parameters.split(", ")
+
+
+class Interface(unittest.TestCase):
+    def test_functions(self):
+        for file, name, parameters in listed():
+            with self.subTest(file=file, name=name):
+                function = getattr(importlib.import_module(f"feasted.{file}"), name)
+                told = inspect.signature(function).parameters.values()
+                self.assertEqual([parameter.name for parameter in told], parameters)
+                for parameter in told:
+                    self.assertEqual(parameter.kind, parameter.POSITIONAL_OR_KEYWORD)
+                    self.assertIs(parameter.default, parameter.empty)
+                self.assertEqual(function.__module__, f"feasted.{file}")
+
+    def test_defined_where_listed(self):
+        for file, name, _ in listed():
+            tree = ast.parse((PACKAGE / f"{file}.py").read_text())
+            self.assertIn(name, [node.name for node in tree.body if isinstance(node, ast.FunctionDef)])
+
+    def test_valley(self):
+        for name, parameters in METHODS.items():
+            self.assertIn(name, vars(Valley))
+            if parameters is not None:
+                self.assertEqual(list(inspect.signature(vars(Valley)[name]).parameters)[1:], parameters)
+        self.assertEqual(Valley.__module__, "feasted.valleys")
