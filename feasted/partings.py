@@ -112,7 +112,7 @@ def fall_apart(valley, last_of):
 
 
 def only_one(found, inside, lacking):
-    """The only place that was found; if there is none, the one of which nothing is known, if it lies inside."""
+    """The only road that was found; if there is none, the one of which nothing is known, if it lies inside."""
     if not found and lacking in inside:
         return lacking
     if len(found) == 1:

@@ -34,7 +34,7 @@ def halved_at(valley, weights, part):
 def held_by_feasts(valley, feasts):
     """The pair of the parts held and of the first part that nothing halves, one of them None."""
     weights, _ = weights_of(feasts)
-    return fall_apart(valley, lambda part, depth: halved_at(valley, weights, part))
+    return fall_apart(valley, lambda part, _: halved_at(valley, weights, part))
 
 
 def parts_held(valley, feasts):

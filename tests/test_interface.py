@@ -21,6 +21,19 @@ LISTED = {
     "histories": "history(valley, evening, one, other)",
     "doubts": """all_fitting(valley, told) suspects(valley, feasts) wrong_and_right(valley, feasts)
         exchanged(valley, feasts) all_within(valley, bounds)""",
+    "sums": "size(valley, some) sums_of(valley, evening) calls_of(valley, evening)",
+    "sumsback": """evening_of_sums(valley, sums) sums_break(valley, sums) feasts_by_sums(valley, sums)
+        sums_by_feasts(valley, feasts) sum_lacking(valley, known)""",
+    "widths": """widths_of(valley, evening) evening_of_widths(valley, widths) widths_break(valley, widths)
+        feasts_by_widths(valley, widths) widths_by_feasts(valley, feasts)""",
+    "lackingwidths": "width_lacking(valley, rest) rest_break(valley, rest) wrong_widths(valley, widths)",
+    "gatelists": """gate_list(valley, evening, gate) lists_behind(valley, evening, gate, many)
+        hands(valley, evening, gate, house) evening_of_list(valley, gate, names) list_break(valley, gate, names)
+        twin(valley, gate, names, other)""",
+    "rowcounts": "evening_of_counts(valley, gate, counts) counts_break(valley, gate, counts)",
+    "tables": """common(valley, evening, some) table_of(valley, evening) first_joined(valley, evening, one, other)
+        joined_first(valley, evening, one, other, third) evening_of_table(valley, table) table_clash(valley, table)
+        with_often(valley, table, house, many) feasts_by_table(valley, table) table_by_feasts(valley, feasts)""",
 }
 METHODS = {"__init__": ["houses", "roads", "heads"], "houses": [], "roads": [], "heads": [], "beside": ["house"],
            "way": ["one", "other"], "side": ["one", "other"], "__eq__": None}
