@@ -1,6 +1,6 @@
 """The evening of given sums: each house hears of the roads by what is left of its sum."""
 
-from feasted.checks import need_feasts, need_valley
+from feasted.checks import need_valley
 from feasted.errors import BadKnown, BadSums
 from feasted.evenings import feasts_of
 from feasted.halves import evening_of_feasts
@@ -29,8 +29,6 @@ def feasts_by_sums(valley, sums):
 
 
 def sums_by_feasts(valley, feasts):
-    need_valley(valley)
-    need_feasts(valley, feasts)
     evening = evening_of_feasts(valley, feasts)
     return None if evening is None else sums_of(valley, evening)
 

@@ -28,8 +28,6 @@ def table_of(valley, evening):
 def first_joined(valley, evening, one, other):
     need_valley(valley)
     places = need_evening(valley, evening)
-    valley.need_house(one)
-    valley.need_house(other)
     way = valley.way(one, other)
     on_the_way = [valley.place(here, there) for here, there in zip(way, way[1:])]
     if not on_the_way:
