@@ -1,6 +1,6 @@
 """What more than one module asks of its arguments."""
 
-from feasted.errors import BadEvening, BadFeasts, BadMany, BadRest, BadSome, BadValley
+from feasted.errors import BadEvening, BadFar, BadFeasts, BadMany, BadRest, BadRoad, BadSome, BadValley
 from feasted.kinds import first_stranger, is_book, is_from_one, is_list, is_number, keys_lacking
 from feasted.valleys import Valley
 
@@ -54,3 +54,17 @@ def need_rest(valley, rest):
     if lacking is None or len(lacking) != 1:
         raise BadRest(rest)
     return lacking[0]
+
+
+def need_road(valley, road):
+    """Its place."""
+    if not valley.is_road(road):
+        raise BadRoad(road)
+    return valley.place(road[0], road[1])
+
+
+def need_far(valley, far):
+    """Its place."""
+    if not valley.is_road(far):
+        raise BadFar(far)
+    return valley.place(far[0], far[1])

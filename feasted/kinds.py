@@ -1,6 +1,6 @@
 """What any object is asked for, whatever it may be."""
 
-from math import gcd
+from math import gcd, lcm
 
 LETTERS = "abcdefghijklmnopqrstuvwxyz"
 FIGURES = "0123456789"
@@ -63,3 +63,11 @@ def fraction(top, bottom):
     """Both in lowest terms."""
     common = gcd(top, bottom)
     return top // common, bottom // common
+
+
+def added_up(parts):
+    """All fractions of a list together, whether or not they are in lowest terms."""
+    whole = 1
+    for _, bottom in parts:
+        whole = lcm(whole, bottom)
+    return fraction(sum([top * (whole // bottom) for top, bottom in parts]), whole)

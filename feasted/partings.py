@@ -69,23 +69,46 @@ def feasts_from(valley, held):
     return counts
 
 
-def first_of(valley, held):
-    """The first evening by which all roads have these parts."""
-    holders = around(valley, held)
+def waits_of(holders):
+    """The dict from all places to how many roads lie in that road's part, its own with them."""
     waits = {place: 0 for place in holders}
     for place in holders:
         for holder in holders[place]:
             waits[holder] += 1
+    return waits
+
+
+def free_now(waits):
+    """Of the roads left, those that wait for none but themselves, the least place first."""
+    return [place for place in waits if waits[place] == 1]
+
+
+def open_one(waits, holders, place):
+    """One of the roads left is opened: those in whose parts it lies wait for one less."""
+    for holder in holders[place]:
+        waits[holder] -= 1
+    del waits[place]
+
+
+def first_places(valley, held):
+    """The places of the first evening by which all roads have these parts."""
+    holders = around(valley, held)
+    waits = waits_of(holders)
     order = []
-    # A road waits for all others in its part; the least of those that wait for none but themselves comes next.
     while waits:
-        place = min([place for place in waits if waits[place] == 1])
-        order.append(place)
-        for holder in holders[place]:
-            waits[holder] -= 1
-        del waits[place]
+        order.append(free_now(waits)[0])
+        open_one(waits, holders, order[-1])
+    return order
+
+
+def roads_at(valley, places):
     roads = valley.roads()
-    return [roads[place] for place in order]
+    return [roads[place] for place in places]
+
+
+def first_of(valley, held):
+    """The first evening by which all roads have these parts."""
+    return roads_at(valley, first_places(valley, held))
 
 
 def fall_apart(valley, last_of):

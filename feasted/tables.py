@@ -6,6 +6,7 @@ from feasted.evenings import feasts_of
 from feasted.kinds import is_book, is_from_one, is_number
 from feasted.partings import held_by, join_up
 from feasted.roadnumbers import evening_of_numbers
+from feasted.ways import places_between
 from feasted.weights import parts_held
 
 
@@ -28,8 +29,7 @@ def table_of(valley, evening):
 def first_joined(valley, evening, one, other):
     need_valley(valley)
     places = need_evening(valley, evening)
-    way = valley.way(one, other)
-    on_the_way = [valley.place(here, there) for here, there in zip(way, way[1:])]
+    on_the_way = places_between(valley, one, other)
     if not on_the_way:
         return None
     return valley.roads()[max(on_the_way, key=lambda place: places.index(place))]
@@ -84,18 +84,19 @@ def table_by_feasts(valley, feasts):
     return None if held is None else _table_from(valley, held)
 
 
-def _pairs(valley):
+def pairs_of(valley):
+    """All pairs of houses, one ahead of other in the valley's order, by one, then by other."""
     houses = valley.houses()
     return [(one, other) for at, one in enumerate(houses) for other in houses[at + 1:]]
 
 
 def _need_table(valley, table):
-    if not is_book(table, _pairs(valley), is_number):
+    if not is_book(table, pairs_of(valley), is_number):
         raise BadTable(table)
 
 
 def _table_from(valley, held):
-    table = {pair: 0 for pair in _pairs(valley)}
+    table = {pair: 0 for pair in pairs_of(valley)}
     for place in held:
         part = held[place]
         for at, one in enumerate(part):
@@ -110,7 +111,7 @@ def _number(table, one, other):
 
 
 def _clash_between(valley, table):
-    for one, other in _pairs(valley):
+    for one, other in pairs_of(valley):
         for third in valley.way(one, other)[1:-1]:
             near = _number(table, one, third)
             beyond = _number(table, third, other)

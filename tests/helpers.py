@@ -1,6 +1,7 @@
 """Valleys for the tests, all evenings of small ones, and what every call is held against."""
 
 import copy
+import fractions
 import itertools
 import random
 
@@ -73,6 +74,12 @@ def shuffled(valley, seed):
     return roads
 
 
+def halved_evening(valley):
+    """Of a row: each part's last road stands near its middle, so that many evenings are alike to this one."""
+    places = range(1, len(valley.roads()) + 1)
+    return [valley.roads()[place - 1] for place in sorted(places, key=lambda place: place & -place)]
+
+
 def big_valleys(many=60, heads=None):
     stars = [star(many, heads), star(many, heads, many - 1)]
     return [row(many, heads), *stars, tree(many, 5, heads), tree(many, 6, heads)]
@@ -106,6 +113,24 @@ def all_evenings(valley):
     return [list(roads) for roads in itertools.permutations(valley.roads())]
 
 
+def alike_ones(valley):
+    """All evenings, those that are alike to one another in one list, in their order."""
+    found = {}
+    for evening in all_evenings(valley):
+        found.setdefault(frozen(plain_parts(valley, evening)), []).append(evening)
+    return list(found.values())
+
+
+def share(top, bottom):
+    """A fraction as it is told."""
+    least = fractions.Fraction(top, bottom)
+    return least.numerator, least.denominator
+
+
+def mean(numbers):
+    return share(sum(numbers), len(numbers))
+
+
 def plain_parts(valley, evening):
     """The parts of roads, looked for anew each time a road is opened."""
     found = {}
@@ -127,6 +152,12 @@ def plain_feasts(valley, evening):
 def plain_numbers(valley, evening):
     held = plain_parts(valley, evening)
     return {road: sum(set(held[road]) <= set(part) for part in held.values()) for road in valley.roads()}
+
+
+def plain_table(valley, evening):
+    held = plain_parts(valley, evening).values()
+    return {(one, other): sum(one in part and other in part for part in held)
+            for one, other in itertools.combinations(valley.houses(), 2)}
 
 
 def frozen(thing):

@@ -27,9 +27,9 @@ BARRED_WORDS = set("""type typing typing_extensions enum Enum IntEnum StrEnum Fl
 BARRED_STARTS = r"^_(wall|pe_|dcw_|enum_|cm_|twin_re_|lay_|law_|stub_|sre|cold|tuplegetter|outside|record|written_out)"
 DUNDERS = {"__init__", "__eq__", "__repr__", "__str__", "__len__"}
 STATEMENTS = (ast.Assign, ast.AugAssign, ast.If, ast.While, ast.For, ast.Return, ast.Break, ast.Continue, ast.Pass,
-              ast.Raise, ast.Assert, ast.Delete, ast.Expr, ast.FunctionDef, ast.ClassDef, ast.ImportFrom)
+              ast.Raise, ast.Assert, ast.Delete, ast.Expr, ast.FunctionDef, ast.ClassDef, ast.ImportFrom, ast.Try)
 BARRED_NODES = (ast.GeneratorExp, ast.Yield, ast.YieldFrom, ast.Await, ast.Global, ast.Nonlocal, ast.Div, ast.AnnAssign,
-                ast.NamedExpr, ast.Match, ast.Try, ast.With)
+                ast.NamedExpr, ast.Match, ast.ExceptHandler, ast.With)
 SCOPES = (ast.FunctionDef, ast.Lambda)
 
 
@@ -246,6 +246,13 @@ class Statements(unittest.TestCase):
             self.assertIsNone(node.returns, place)
             for argument in ast.walk(node.args):
                 self.assertIsNone(getattr(argument, "annotation", None), place)
+
+    def test_finally_only_puts_back(self):
+        for place, node in every(ast.Try):
+            for statement in node.finalbody:
+                self.assertIsInstance(statement, ast.Assign, place)
+                for part in ast.walk(statement):
+                    self.assertIsInstance(part, (ast.Assign, ast.Tuple, ast.Name, ast.Attribute, ast.expr_context), place)
 
     def test_double_underscores(self):
         for place, node in every(ast.FunctionDef):

@@ -6,6 +6,7 @@ import inspect
 import pathlib
 import unittest
 
+from feasted.desks import Desk
 from feasted.valleys import Valley
 
 PACKAGE = pathlib.Path(__file__).resolve().parent.parent / "feasted"
@@ -34,9 +35,27 @@ LISTED = {
     "tables": """common(valley, evening, some) table_of(valley, evening) first_joined(valley, evening, one, other)
         joined_first(valley, evening, one, other, third) evening_of_table(valley, table) table_clash(valley, table)
         with_often(valley, table, house, many) feasts_by_table(valley, table) table_by_feasts(valley, feasts)""",
+    "somepairs": "count_by_pairs(valley, pairs) evening_by_pairs(valley, pairs)",
+    "alikes": """count_alike(valley, evening) always_ahead(valley, evening, road, far) alike_at(valley, evening, number)
+        alike_number(valley, evening) next_alike(valley, evening) can_be_next(valley, evening, opened)
+        count_begun(valley, evening, opened)""",
+    "alikeplaces": """ahead_share(valley, evening, road, far) place_span(valley, evening, road)
+        place_counts(valley, evening, road) mean_place(valley, evening, road)""",
+    "exchanges": "fewest_exchanges(valley, evening, other) exchange_row(valley, evening, other)",
+    "chances": """chance_joined(valley, one, other, number) mean_joined(valley, one, other)
+        chance_there(valley, house, one, other) chance_both(valley, house, guest, one, other)
+        chances_first(valley, house, one, other) chance_alike(valley, evening)""",
+    "means": """mean_feasts(valley, house) mean_common(valley, house, guest) mean_people(valley, one, other)
+        mean_meals(valley)""",
 }
-METHODS = {"__init__": ["houses", "roads", "heads"], "houses": [], "roads": [], "heads": [], "beside": ["house"],
-           "way": ["one", "other"], "side": ["one", "other"], "__eq__": None}
+METHODS = {
+    Valley: {"__init__": ["houses", "roads", "heads"], "houses": [], "roads": [], "heads": [], "beside": ["house"],
+             "way": ["one", "other"], "side": ["one", "other"], "__eq__": ["other"]},
+    Desk: {"__init__": ["valley"], "valley": [], "opened": [], "watched": [], "do": ["deed"], "is_question": ["thing"],
+           "answer": ["question"], "way_to": ["goal"], "goal_fault": ["goal"], "would": ["deed"], "free_roads": [],
+           "count": [], "undo": [], "again": [], "deeds": [], "at": ["number"], "copy": [], "trial": ["work"],
+           "__eq__": ["other"]},
+}
 
 
 def listed():
@@ -64,9 +83,9 @@ class Interface(unittest.TestCase):
             tree = ast.parse((PACKAGE / f"{file}.py").read_text())
             self.assertIn(name, [node.name for node in tree.body if isinstance(node, ast.FunctionDef)])
 
-    def test_valley(self):
-        for name, parameters in METHODS.items():
-            self.assertIn(name, vars(Valley))
-            if parameters is not None:
-                self.assertEqual(list(inspect.signature(vars(Valley)[name]).parameters)[1:], parameters)
-        self.assertEqual(Valley.__module__, "feasted.valleys")
+    def test_classes(self):
+        for kind, methods in METHODS.items():
+            for name, parameters in methods.items():
+                self.assertIn(name, vars(kind))
+                self.assertEqual(list(inspect.signature(vars(kind)[name]).parameters)[1:], parameters)
+        self.assertEqual((Valley.__module__, Desk.__module__), ("feasted.valleys", "feasted.desks"))

@@ -6,19 +6,13 @@ from feasted.evenings import feasts_of, first_alike
 from feasted.tables import (common, evening_of_table, feasts_by_table, first_joined, joined_first, table_by_feasts,
                             table_clash, table_of, with_often)
 from tests.helpers import (ANYTHING, EVENING, EXAMPLE, LONE, TWO, all_books, all_evenings, big_evenings, big_valleys,
-                           first_ones, frozen, keep_to_the_rules, named, nearly, plain_feasts, plain_parts, refused,
-                           refused_in_order, small_valleys)
+                           first_ones, frozen, keep_to_the_rules, named, nearly, plain_feasts, plain_parts, plain_table,
+                           refused, refused_in_order, small_valleys)
 
 AB, BC, BD = EXAMPLE.roads()
 AC, AD, CD = ("a", "c"), ("a", "d"), ("c", "d")
 TABLE = {AB: 2, AC: 2, AD: 1, BC: 3, BD: 1, CD: 1}
 BACK = [evening_of_table, table_clash, feasts_by_table]
-
-
-def plain_table(valley, evening):
-    held = plain_parts(valley, evening).values()
-    return {(one, other): sum(one in part and other in part for part in held)
-            for one, other in combinations(valley.houses(), 2)}
 
 
 def plain_clash(valley, table):
