@@ -45,6 +45,18 @@ LISTED = {
     "chances": """chance_joined(valley, one, other, number) mean_joined(valley, one, other)
         chance_there(valley, house, one, other) chance_both(valley, house, guest, one, other)
         chances_first(valley, house, one, other) chance_alike(valley, evening)""",
+    "oftens": "chances_feasts(valley, house) drawn_evening(valley, chooser)",
+    "unlikes": """count_unlike(valley) count_last(valley, one, other) count_by_feasts(valley, house)
+        mean_of_unlike(valley, house)""",
+    "unlikenumbers": "unlike_at(valley, number) unlike_number(valley, evening)",
+    "rowsandstars": "is_row(valley) is_star(valley) count_row(many) count_star(many) row_end(many, often)",
+    "logs": """log_of(valley, evening, house) evening_of_log(valley, house, log) log_fault(valley, house, log)
+        evenings_with_log(valley, house, log) feasts_by_log(valley, house, log, other)""",
+    "writers": """see_alike(valley, evening, other_evening, lot) unseen(valley, evening, lot)
+        count_unseen(valley, evening, lot) tell_evening(valley, evening, lot) fewest_writers(valley, evening)
+        tell_always(valley, lot) always_writers(valley) apart_threes(valley)""",
+    "dates": """evening_of_dates(valley, dates) joined_on(valley, dates, one, other)
+        feasts_till(valley, dates, date)""",
     "means": """mean_feasts(valley, house) mean_common(valley, house, guest) mean_people(valley, one, other)
         mean_meals(valley)""",
 }
