@@ -2,6 +2,7 @@
 
 from feasted.errors import BadEvening, BadFar, BadFeasts, BadMany, BadRest, BadRoad, BadSome, BadValley
 from feasted.kinds import first_stranger, is_book, is_from_one, is_list, is_number, keys_lacking
+from feasted.refusals import BadBegun, CommonHouse
 from feasted.valleys import Valley
 
 
@@ -10,14 +11,20 @@ def need_valley(valley):
         raise BadValley(valley)
 
 
-def evening_places(valley, thing):
-    """The places of an evening's roads, as they are opened, None for what is no evening."""
-    if not is_list(thing) or len(thing) != len(valley.roads()):
-        return None
-    if not all([valley.is_road(road) for road in thing]):
+def begun_places(valley, thing):
+    """The places of unlike roads, as they are opened, None for what is no list of such."""
+    if not is_list(thing) or not all([valley.is_road(road) for road in thing]):
         return None
     places = [valley.place(road[0], road[1]) for road in thing]
     if len(set(places)) != len(places):
+        return None
+    return places
+
+
+def evening_places(valley, thing):
+    """The places of an evening's roads, as they are opened, None for what is no evening."""
+    places = begun_places(valley, thing)
+    if places is None or len(places) != len(valley.roads()):
         return None
     return places
 
@@ -27,6 +34,14 @@ def need_evening(valley, evening):
     places = evening_places(valley, evening)
     if places is None:
         raise BadEvening(evening)
+    return places
+
+
+def need_begun(valley, begun):
+    """The places of its roads, as they are opened."""
+    places = begun_places(valley, begun)
+    if places is None:
+        raise BadBegun(begun)
     return places
 
 
@@ -68,3 +83,14 @@ def need_far(valley, far):
     if not valley.is_road(far):
         raise BadFar(far)
     return valley.place(far[0], far[1])
+
+
+def need_two(first, second, house, far):
+    """Two valleys that can be joined, and a house of each."""
+    need_valley(first)
+    need_valley(second)
+    for name in first.houses():
+        if second.is_house(name):
+            raise CommonHouse(name)
+    first.need_house(house)
+    second.need_house(far)

@@ -5,7 +5,7 @@ from feasted.deskstates import (answers, changes, held_in, is_question_in, need_
                                 watched_in, with_place)
 from feasted.halves import feasts_break
 from feasted.kinds import is_book, is_number
-from feasted.partings import first_places, held_by, roads_at
+from feasted.partings import first_places, first_unlike, held_by, roads_at
 from feasted.refusals import BadGoal, NoCount, WouldChange
 from feasted.weights import parts_held
 
@@ -59,7 +59,7 @@ class Desk:
         _need_goal(self.valley(), goal)
         valley, places, _ = self._state()
         held = parts_held(valley, goal)
-        if held is None or _first_unlike(valley, places, held) is not None:
+        if held is None or first_unlike(places, held_by(valley, places), held) is not None:
             return None
         return roads_at(valley, [place for place in first_places(valley, held) if place not in places])
 
@@ -69,7 +69,7 @@ class Desk:
         broken = feasts_break(valley, goal)
         if broken is not None:
             return "break", broken
-        place = _first_unlike(valley, places, parts_held(valley, goal))
+        place = first_unlike(places, held_by(valley, places), parts_held(valley, goal))
         if place is None:
             return None
         one, other = valley.roads()[place]
@@ -134,12 +134,3 @@ class Desk:
 def _need_goal(valley, goal):
     if not is_book(goal, valley.houses(), is_number):
         raise BadGoal(goal)
-
-
-def _first_unlike(valley, places, held):
-    """The first open road whose part was another one than it holds, None if there is none."""
-    was = held_by(valley, places)
-    for place in places:
-        if was[place] != held[place]:
-            return place
-    return None

@@ -1,7 +1,7 @@
 """Evenings: the roads, one after another, and who feasts when they are opened."""
 
 from feasted.checks import evening_places, need_evening, need_many, need_valley
-from feasted.partings import by_roads, feasts_from, first_of, held_by, join_up
+from feasted.partings import by_roads, feasts_from, first_of, held_by, join_up, lots_behind_all
 
 
 def is_evening(valley, thing):
@@ -26,8 +26,7 @@ def parts_behind(valley, evening, many):
     need_valley(valley)
     places = need_evening(valley, evening)
     need_many(valley, many)
-    _, lots = join_up(valley, places[:many])
-    return [lots[house] for house in valley.houses() if lots[house][0] == house]
+    return lots_behind_all(valley, places[:many])
 
 
 def are_alike(valley, evening, other):

@@ -6,13 +6,19 @@ from feasted.partings import held_by, roads_at
 
 
 def fewest_exchanges(valley, evening, other):
-    ranks = _ranks(valley, evening, other)
+    places, others = _need_alike(valley, evening, other)
+    ranks = _ranks(places, others)
     return sum([len([far for far in ranks[:at] if far > rank]) for at, rank in enumerate(ranks)])
 
 
 def exchange_row(valley, evening, other):
-    ranks = _ranks(valley, evening, other)
-    goal = need_evening(valley, other)
+    places, others = _need_alike(valley, evening, other)
+    return [roads_at(valley, order) for order in orders_between(places, others)]
+
+
+def orders_between(order, goal):
+    """All lists from one to a goal, each but the first one exchange off the one ahead, as short as can be."""
+    ranks = _ranks(order, goal)
     passed = [list(ranks)]
     at = 0
     while at < len(ranks) - 1:
@@ -22,14 +28,19 @@ def exchange_row(valley, evening, other):
             at = max(at - 1, 0)
         else:
             at += 1
-    return [roads_at(valley, [goal[rank] for rank in row]) for row in passed]
+    return [[goal[rank] for rank in row] for row in passed]
 
 
-def _ranks(valley, evening, other):
-    """Where each road of the evening stands in the other one."""
+def _ranks(order, goal):
+    """Where each of an order stands in the goal."""
+    return [goal.index(place) for place in order]
+
+
+def _need_alike(valley, evening, other):
+    """The places of the roads of both."""
     need_valley(valley)
     places = need_evening(valley, evening)
     others = need_evening(valley, other)
     if held_by(valley, places) != held_by(valley, others):
         raise NotAlike()
-    return [others.index(place) for place in places]
+    return places, others

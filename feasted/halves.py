@@ -4,7 +4,7 @@ from feasted.checks import need_feasts, need_some, need_valley
 from feasted.errors import BadPart
 from feasted.kinds import first_stranger, is_list
 from feasted.partings import by_roads, first_of, hangs_together
-from feasted.weights import parts_held, halved_at, held_by_feasts, weigh, weights_of
+from feasted.weights import halved_at, lots_held, parts_held, weigh, weights_of
 
 
 def weight(valley, feasts, some):
@@ -36,7 +36,7 @@ def feasts_break(valley, feasts):
     together = weigh(feasts, valley.houses())
     if together != (1, 1):
         return "sum", together
-    _, part = held_by_feasts(valley, feasts)
+    _, part = lots_held(valley, feasts, [valley.houses()])
     return None if part is None else ("part", part)
 
 

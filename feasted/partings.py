@@ -41,6 +41,12 @@ def join_up(valley, places):
     return came, lots
 
 
+def lots_behind_all(valley, places):
+    """The parts that are joined by roads at last, by their first houses."""
+    _, lots = join_up(valley, places)
+    return [lots[house] for house in valley.houses() if lots[house][0] == house]
+
+
 def held_by(valley, places):
     """The parts of all roads by an evening."""
     came, _ = join_up(valley, places)
@@ -53,8 +59,8 @@ def by_roads(valley, held):
 
 
 def around(valley, held):
-    """The dict from all places to the list of those whose parts hold the part of that road, its own with them."""
-    holders = {place: [] for place in range(len(valley.roads()))}
+    """The dict from the places held to the list of those whose parts hold the part of that road, its own with them."""
+    holders = {place: [] for place in sorted(list(held))}
     for place in held:
         for inside in roads_inside(valley, held[place]):
             holders[inside].append(place)
@@ -70,7 +76,7 @@ def feasts_from(valley, held):
 
 
 def waits_of(holders):
-    """The dict from all places to how many roads lie in that road's part, its own with them."""
+    """The dict from the same places to how many roads lie in that road's part, its own with them."""
     waits = {place: 0 for place in holders}
     for place in holders:
         for holder in holders[place]:
@@ -91,7 +97,7 @@ def open_one(waits, holders, place):
 
 
 def first_places(valley, held):
-    """The places of the first evening by which all roads have these parts."""
+    """The places of the first evening, or begun one, by which all roads held have these parts."""
     holders = around(valley, held)
     waits = waits_of(holders)
     order = []
@@ -111,15 +117,28 @@ def first_of(valley, held):
     return roads_at(valley, first_places(valley, held))
 
 
+def first_unlike(places, was, held):
+    """The first of some roads whose part was another one than it holds, None if there is none."""
+    for place in places:
+        if place not in held or was[place] != held[place]:
+            return place
+    return None
+
+
 def fall_apart(valley, last_of):
-    """Take all houses apart, road by road, the lot on the side of a road's first house ahead of the other one.
+    """Take all houses apart, as lots_fall_apart does."""
+    return lots_fall_apart(valley, [valley.houses()], last_of)
+
+
+def lots_fall_apart(valley, lots, last_of):
+    """Take lots apart, road by road, what lies on the side of a road's first house ahead of what lies beyond.
 
     last_of(part, depth) tells the place of a part's last road, None if it has none; depth is how many parts
     are around. What comes out is the pair of the parts held, None unless all fell apart, and of the first part
     without a last road, None if there is none.
     """
     held = {}
-    waiting = [(valley.houses(), 0)]
+    waiting = [(part, 0) for part in reversed(lots)]
     while waiting:
         part, depth = waiting.pop()
         if len(part) == 1:

@@ -1,7 +1,7 @@
 """Weights as integers: so many of the least weight that there is."""
 
 from feasted.kinds import fraction
-from feasted.partings import fall_apart
+from feasted.partings import lots_fall_apart
 
 
 def weights_of(feasts):
@@ -31,15 +31,15 @@ def halved_at(valley, weights, part):
     return None
 
 
-def held_by_feasts(valley, feasts):
-    """The pair of the parts held and of the first part that nothing halves, one of them None."""
+def lots_held(valley, feasts, lots):
+    """The pair of the parts held within some lots and of the first part that nothing halves, one of them None."""
     weights, _ = weights_of(feasts)
-    return fall_apart(valley, lambda part, _: halved_at(valley, weights, part))
+    return lots_fall_apart(valley, lots, lambda part, _: halved_at(valley, weights, part))
 
 
 def parts_held(valley, feasts):
     """The parts held by the evenings with these feasts, None if there are none."""
     if weigh(feasts, valley.houses()) != (1, 1):
         return None
-    held, _ = held_by_feasts(valley, feasts)
+    held, _ = lots_held(valley, feasts, [valley.houses()])
     return held

@@ -254,3 +254,83 @@ def keep_to_the_rules(test, function, arguments, expected):
     test.assertEqual(repr(function(**dict(reversed(arguments.items())))), repr(expected))
     again = {name: turned(thing) for name, thing in arguments.items()}
     test.assertEqual(repr(function(**again)), repr(expected))
+
+
+def some_spans(valley, times, seed=3):
+    """Lists of spans, wide and narrow, no two of one and the same date alone."""
+    chance = random.Random(seed)
+    for time in range(times):
+        spans = []
+        while len(spans) < len(valley.roads()):
+            least = chance.randrange(-1, 4)
+            span = (least, least + chance.randrange(0, 1 + time % 5))
+            if span[0] != span[1] or span not in spans:
+                spans.append(span)
+        yield spans
+
+
+def span_dates(valley, spans, evening):
+    """The earliest and the latest dates of all roads by an evening, None if there are none: each a day and how many
+    least moments behind it, or ahead of it."""
+    span_of = dict(zip(valley.roads(), spans))
+    soon = {}
+    now = (-100, 0)
+    for road in evening:
+        now = max((span_of[road][0], 0), (now[0], now[1] + 1))
+        if now > (span_of[road][1], 0):
+            return None
+        soon[road] = now
+    late = {}
+    now = (100, 0)
+    for road in reversed(evening):
+        now = min((span_of[road][1], 0), (now[0], now[1] - 1))
+        late[road] = now
+    return soon, late
+
+
+def all_plans(valley):
+    """All ways to open all roads day by day, whether or not it makes a difference who is first on a day."""
+    return _days_of(valley.roads())
+
+
+def _days_of(left):
+    if not left:
+        return [[]]
+    found = []
+    for many in range(1, len(left) + 1):
+        for day in itertools.combinations(left, many):
+            found.extend([list(day)] + rest for rest in _days_of([road for road in left if road not in day]))
+    return found
+
+
+def all_begun(valley):
+    """All begun evenings, in their order among those that are as long."""
+    for many in range(len(valley.roads()) + 1):
+        for roads in itertools.permutations(valley.roads(), many):
+            yield list(roads)
+
+
+def plain_lots(valley, begun):
+    """The parts joined by some roads, by their first houses."""
+    lots = []
+    for house in valley.houses():
+        if house not in [far for lot in lots for far in lot]:
+            reached = {house}
+            known = 0
+            while len(reached) > known:
+                known = len(reached)
+                for one, other in begun:
+                    if one in reached or other in reached:
+                        reached |= {one, other}
+            lots.append([far for far in valley.houses() if far in reached])
+    return lots
+
+
+def plain_so_far(valley, begun):
+    feasts = {house: 0 for house in valley.houses()}
+    for many in range(1, len(begun) + 1):
+        for lot in plain_lots(valley, begun[:many]):
+            if begun[many - 1][0] in lot:
+                for house in lot:
+                    feasts[house] += 1
+    return feasts

@@ -247,6 +247,14 @@ class Statements(unittest.TestCase):
             for argument in ast.walk(node.args):
                 self.assertIsNone(getattr(argument, "annotation", None), place)
 
+    def test_behind_stars_stand_names(self):
+        for place, node in every(ast.Call):
+            if any(isinstance(argument, ast.Starred) for argument in node.args):
+                for argument in node.args:
+                    inner = argument.value if isinstance(argument, ast.Starred) else argument
+                    self.assertIsInstance(inner, (ast.Name, ast.Constant), place)
+            self.assertTrue(all(keyword.arg for keyword in node.keywords), place)
+
     def test_finally_only_puts_back(self):
         for place, node in every(ast.Try):
             for statement in node.finalbody:

@@ -57,6 +57,23 @@ LISTED = {
         tell_always(valley, lot) always_writers(valley) apart_threes(valley)""",
     "dates": """evening_of_dates(valley, dates) joined_on(valley, dates, one, other)
         feasts_till(valley, dates, date)""",
+    "datespans": """surely_ahead(valley, spans) can_be(valley, spans, evening) dates_for(valley, spans, evening)
+        bar_of(valley, spans, evening) surely_there(valley, spans, one, other)
+        perhaps_there(valley, spans, one, other) joined_span(valley, spans, one, other)""",
+    "feastspans": """feast_span(valley, spans, house) evening_with(valley, spans, house, number)
+        evening_for(valley, spans, feasts) feasts_bar(valley, spans, feasts)""",
+    "dayplans": """is_plan(valley, evening, thing) fewest_days(valley, evening) earliest_plan(valley, evening)
+        day_spans(valley, evening, days) count_days(valley, evening, days)""",
+    "teams": "plan_by_teams(valley, evening, teams) crowd(valley, evening, teams) quickest(valley)",
+    "begun": """is_begun(valley, thing) feasts_so_far(valley, begun) lots(valley, begun)
+        is_open(valley, feasts, one, other) open_roads(valley, feasts) begun_of_feasts(valley, feasts)
+        begun_break(valley, feasts)""",
+    "looks": """begun_through(valley, looks) looks_fault(valley, looks) still_to_come(valley, begun)
+        can_end_with(valley, begun, feasts)""",
+    "joins": """joined_valley(first, second, house, far) side_valley(valley, one, other)
+        side_evening(valley, evening, one, other) join_of(valley, evening, one, other)
+        joint_evening(first, evening, second, other_evening, house, far, join)
+        count_joins(first, evening, second, other_evening, house, far)""",
     "means": """mean_feasts(valley, house) mean_common(valley, house, guest) mean_people(valley, one, other)
         mean_meals(valley)""",
 }
