@@ -2,7 +2,7 @@
 
 from feasted.errors import BadEvening, BadFar, BadFeasts, BadMany, BadRest, BadRoad, BadSome, BadValley
 from feasted.kinds import first_stranger, is_book, is_from_one, is_list, is_number, keys_lacking
-from feasted.refusals import BadBegun, CommonHouse
+from feasted.refusals import BadBegun, BadClosing, CommonHouse
 from feasted.valleys import Valley
 
 
@@ -34,6 +34,14 @@ def need_evening(valley, evening):
     places = evening_places(valley, evening)
     if places is None:
         raise BadEvening(evening)
+    return places
+
+
+def need_closing(valley, closing):
+    """The places of its roads, as they are closed."""
+    places = evening_places(valley, closing)
+    if places is None:
+        raise BadClosing(closing)
     return places
 
 
@@ -94,3 +102,8 @@ def need_two(first, second, house, far):
             raise CommonHouse(name)
     first.need_house(house)
     second.need_house(far)
+
+
+def is_no_function(thing):
+    """Whether it is of a kind that is refused wherever a function is asked for."""
+    return thing is None or isinstance(thing, (int, str, list, tuple, dict, Valley))

@@ -131,6 +131,14 @@ class Desk:
         return self._states[self._done]
 
 
+def desk_in(state):
+    """A desk in this state, no deed done."""
+    valley, _, _ = state
+    desk = Desk(valley)
+    desk._states = [state]
+    return desk
+
+
 def _need_goal(valley, goal):
     if not is_book(goal, valley.houses(), is_number):
         raise BadGoal(goal)

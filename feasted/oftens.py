@@ -2,11 +2,10 @@
 
 from math import comb, factorial
 
-from feasted.checks import need_valley
+from feasted.checks import is_no_function, need_valley
 from feasted.desks import Desk
 from feasted.errors import BadChooser, BadNumber, FeastError
 from feasted.kinds import fraction, is_number
-from feasted.valleys import Valley
 
 
 def chances_feasts(valley, house):
@@ -19,7 +18,7 @@ def chances_feasts(valley, house):
 
 def drawn_evening(valley, chooser):
     need_valley(valley)
-    if chooser is None or isinstance(chooser, (int, str, list, tuple, dict, Valley, Desk, FeastError)):
+    if is_no_function(chooser) or isinstance(chooser, (Desk, FeastError)):
         raise BadChooser(chooser)
     left = valley.roads()
     evening = []

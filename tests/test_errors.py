@@ -52,6 +52,8 @@ class Errors(unittest.TestCase):
             for at in range(len(ANYTHING)):
                 things = [ANYTHING[(at + more) % len(ANYTHING)] for more in range(len(parameters))]
                 for made in [error(*things), error(**dict(zip(parameters, things)))]:
+                    self.assertIs(made.__class__, error)
+                    self.assertIsInstance(made, ValueError)
                     self.assertEqual(list(vars(made)), parameters)
                     for parameter, thing in zip(parameters, things):
                         self.assertIs(getattr(made, parameter), thing)

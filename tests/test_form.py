@@ -29,7 +29,7 @@ DUNDERS = {"__init__", "__eq__", "__repr__", "__str__", "__len__"}
 STATEMENTS = (ast.Assign, ast.AugAssign, ast.If, ast.While, ast.For, ast.Return, ast.Break, ast.Continue, ast.Pass,
               ast.Raise, ast.Assert, ast.Delete, ast.Expr, ast.FunctionDef, ast.ClassDef, ast.ImportFrom, ast.Try)
 BARRED_NODES = (ast.GeneratorExp, ast.Yield, ast.YieldFrom, ast.Await, ast.Global, ast.Nonlocal, ast.Div, ast.AnnAssign,
-                ast.NamedExpr, ast.Match, ast.ExceptHandler, ast.With)
+                ast.NamedExpr, ast.Match, ast.With)
 SCOPES = (ast.FunctionDef, ast.Lambda)
 
 
@@ -64,6 +64,8 @@ def bound_in(scope):
         elif isinstance(node, ast.Name) and isinstance(node.ctx, ast.Store):
             names.append(node.id)
         elif isinstance(node, ast.FunctionDef) and node is not scope:
+            names.append(node.name)
+        elif isinstance(node, ast.ExceptHandler) and node.name:
             names.append(node.name)
     return names
 
@@ -255,6 +257,19 @@ class Statements(unittest.TestCase):
                     self.assertIsInstance(inner, (ast.Name, ast.Constant), place)
             self.assertTrue(all(keyword.arg for keyword in node.keywords), place)
 
+    def test_own_errors_alone_are_caught(self):
+        """One at a time, by its name; of the error its own attributes are read, nothing else."""
+        own = {node.name for name, tree in trees() if name in ("errors.py", "refusals.py") for node in tree.body
+               if isinstance(node, ast.ClassDef)}
+        for place, node in every(ast.ExceptHandler):
+            self.assertIsInstance(node.type, ast.Name, place)
+            self.assertIn(node.type.id, own, place)
+            inner = list(ast.walk(node))
+            kept = [each.value for each in inner if isinstance(each, ast.Attribute)]
+            for each in inner:
+                if isinstance(each, ast.Name) and each.id == node.name:
+                    self.assertIn(each, kept, place)
+
     def test_finally_only_puts_back(self):
         for place, node in every(ast.Try):
             for statement in node.finalbody:
@@ -336,6 +351,7 @@ class Statements(unittest.TestCase):
 
     def test_views_are_iterated_on_the_spot(self):
         takers = {"list", "tuple", "dict", "sorted", "sum", "any", "all", "enumerate", "zip", "min", "max"}
+        takers |= {"permutations"}
         for name, tree in trees():
             allowed = set()
             for node in ast.walk(tree):

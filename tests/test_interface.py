@@ -7,7 +7,9 @@ import pathlib
 import unittest
 
 from feasted.desks import Desk
+from feasted.errors import BadValley
 from feasted.valleys import Valley
+from tests.helpers import ANYTHING, EXAMPLE, refused
 
 PACKAGE = pathlib.Path(__file__).resolve().parent.parent / "feasted"
 LISTED = {
@@ -74,6 +76,21 @@ LISTED = {
         side_evening(valley, evening, one, other) join_of(valley, evening, one, other)
         joint_evening(first, evening, second, other_evening, house, far, join)
         count_joins(first, evening, second, other_evening, house, far)""",
+    "grown": """joint_feasts(first, feasts, second, other_feasts, house, far, join)
+        side_feasts(valley, feasts, one, other) with_house(valley, feasts, name, people, house, many)
+        without_house(valley, feasts, house)""",
+    "bread": """loaves(valley, evening) bringers(valley, evening) leavings(valley, evening, heaps)
+        left_together(valley, evening, heaps)""",
+    "growths": """is_growth(valley, thing) growth_from(valley, house) most_loaves(valley) hungriest(valley)
+        least_loaves(valley) thriftiest(valley)""",
+    "farewells": """farewells(valley, closing) parted_by(valley, closing, one, other)
+        still_joined(valley, closing, house, many) closing_of(valley, feasts) closing_break(valley, feasts)""",
+    "nights": """together(valley, evening, closing, one, other) longest(valley, evening, closing)
+        night_of(valley, evening, closing, house) night_of_numbers(valley, feasts, others)
+        night_break(valley, feasts, others)""",
+    "openers": "opened_by(valley, opener) opened_for(valley, feasts, opener)",
+    "lastaskers": "run_asker(valley, evening, asker) beaten_by(valley, asker)",
+    "desktexts": "write_desk(desk) read_desk(text)",
     "means": """mean_feasts(valley, house) mean_common(valley, house, guest) mean_people(valley, one, other)
         mean_meals(valley)""",
 }
@@ -111,6 +128,28 @@ class Interface(unittest.TestCase):
         for file, name, _ in listed():
             tree = ast.parse((PACKAGE / f"{file}.py").read_text())
             self.assertIn(name, [node.name for node in tree.body if isinstance(node, ast.FunctionDef)])
+
+    def test_no_valley(self):
+        """What is no Valley is refused ahead of all, whatever else is passed."""
+        for file, name, parameters in listed():
+            function = getattr(importlib.import_module(f"feasted.{file}"), name)
+            for at, parameter in enumerate(parameters):
+                if parameter in ("valley", "first", "second"):
+                    for thing in ANYTHING:
+                        if not isinstance(thing, Valley):
+                            passed = [EXAMPLE if each in ("first", "second") else None for each in parameters]
+                            passed[at] = thing
+                            with self.subTest(name=name, parameter=parameter):
+                                refused(self, BadValley, {"thing": thing}, lambda: function(*passed))
+
+    def test_is_or_asks(self):
+        """What is named is_.., of any object, tells True or False."""
+        for file, name, parameters in listed():
+            if name.startswith("is_") and parameters[-1] == "thing":
+                function = getattr(importlib.import_module(f"feasted.{file}"), name)
+                passed = [EXAMPLE, *[EXAMPLE.roads() for each in parameters[1:-1]]]
+                for thing in [*ANYTHING, EXAMPLE.roads()]:
+                    self.assertIn(function(*passed, thing).__class__, [bool])
 
     def test_classes(self):
         for kind, methods in METHODS.items():
