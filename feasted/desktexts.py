@@ -81,14 +81,14 @@ def _read_valley(rows, people, end):
 
 def _read_opened(rows, valley):
     """The places of the open roads, as they were opened."""
-    roads = valley.roads()
-    start = len(valley.houses()) + len(roads)
+    closed = {road: place for place, road in enumerate(valley.roads())}
+    start = len(valley.houses()) + len(closed)
     places = []
     for at, row in enumerate(_run(rows, start, "open")):
         road = tuple(row[1:])
-        if road not in roads or roads.index(road) in places:
+        if road not in closed:
             raise BadText(start + at + 1)
-        places.append(roads.index(road))
+        places.append(closed.pop(road))
     return places
 
 

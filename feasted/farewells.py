@@ -31,7 +31,7 @@ def still_joined(valley, closing, house, many):
     valley.need_house(house)
     need_many(valley, many)
     _, lots = join_up(valley, places[many:])
-    return list(lots[house])
+    return lots[house]
 
 
 def closing_of(valley, feasts):

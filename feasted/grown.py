@@ -1,6 +1,6 @@
 """Feasts alone of two valleys joined, of one side of a road, and of a valley with a house more, or one less."""
 
-from feasted.checks import need_feasts, need_two, need_valley
+from feasted.checks import need_two, need_valley
 from feasted.errors import BadFeasts, BadMany
 from feasted.evenings import feasts_of
 from feasted.halves import evening_of_feasts
@@ -51,7 +51,6 @@ def without_house(valley, feasts, house):
 
 def _need_evening_of(valley, feasts):
     """The first evening that has these feasts."""
-    need_feasts(valley, feasts)
     evening = evening_of_feasts(valley, feasts)
     if evening is None:
         raise BadFeasts(feasts)

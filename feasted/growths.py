@@ -78,9 +78,10 @@ def _least_of(valley, splits, lot, known):
             theirs, _ = _least_of(valley, splits, beyond, known)
             ways[place] = mine + theirs, near, beyond
         if ways:
-            last = min(list(ways), key=lambda place: ways[place][0])
+            last = min(list(ways), key=lambda far: ways[far][0])
             least, near, beyond = ways[last]
-            known[lot] = least + _people_of(valley, lot), known[near][1] + known[beyond][1] + [last]
+            order = known[near][1] + known[beyond][1] + [last]
+            known[lot] = least + _people_of(valley, lot), order
     return known[lot]
 
 

@@ -39,6 +39,9 @@ def lots_held(valley, feasts, lots):
 
 def parts_held(valley, feasts):
     """The parts held by the evenings with these feasts, None if there are none."""
+    # No house feasts more often than there are roads: what is greater need not be weighed.
+    if max(list(feasts.values())) > len(valley.roads()):
+        return None
     if weigh(feasts, valley.houses()) != (1, 1):
         return None
     held, _ = lots_held(valley, feasts, [valley.houses()])

@@ -3,7 +3,7 @@ import unittest
 from feasted.errors import BadFeasts, BadNumber, BadSpans, BadValley, NoHouse
 from feasted.feastspans import evening_for, evening_with, feast_span, feasts_bar
 from feasted.datespans import can_be
-from tests.helpers import (ANYTHING, EVENING, EXAMPLE, LONE, TWO, all_books, all_evenings, big_valleys,
+from tests.helpers import (ANYTHING, EXAMPLE, LONE, TWO, all_books, all_evenings, big_valleys,
                            keep_to_the_rules, named, plain_feasts, plain_parts, refused, refused_in_order, row, shuffled,
                            small_valleys, some_spans, span_dates)
 

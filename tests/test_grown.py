@@ -7,8 +7,8 @@ from feasted.grown import joint_feasts, side_feasts, with_house, without_house
 from feasted.joins import join_of, side_evening, side_valley
 from feasted.refusals import BadJoin, BadName, BadPeople, CommonHouse, NotOuter
 from feasted.valleys import Valley
-from tests.helpers import (ANYTHING, EXAMPLE, LONE, TWO, all_evenings, big_evenings, keep_to_the_rules, named,
-                           plain_feasts, plain_parts, refused, refused_in_order, small_valleys)
+from tests.helpers import (ANYTHING, EXAMPLE, LONE, TWO, all_evenings, big_evenings, big_valleys, keep_to_the_rules,
+                           named, plain_feasts, plain_parts, refused, refused_in_order, small_valleys)
 from tests.test_joins import AB, XY
 
 FEASTS = named([2, 3, 3, 1])
@@ -178,3 +178,11 @@ class Sixty(unittest.TestCase):
             mine, theirs = side_feasts(valley, feasts, one, other), side_feasts(valley, feasts, other, one)
             join = join_of(valley, evening, one, other)
             self.assertEqual(joint_feasts(first, mine, second, theirs, one, other, join), feasts)
+
+    def test_numbers_of_any_size(self):
+        """What is refused may be however great."""
+        for valley in big_valleys():
+            feasts = {house: 10 ** 30 for house in valley.houses()}
+            refused(self, BadFeasts, {"feasts": feasts}, lambda: without_house(valley, feasts, None))
+            refused(self, BadFeasts, {"feasts": feasts}, lambda: with_house(valley, feasts, None, None, None, None))
+            refused(self, BadFeasts, {"feasts": feasts}, lambda: side_feasts(valley, feasts, None, None))
